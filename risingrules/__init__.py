@@ -1,0 +1,1 @@
+"""Towers that watch one another, by rules that rise."""

@@ -1,0 +1,50 @@
+"""Towers with flags up or down, whose rules rise: with more flags up, none comes down."""
+
+MOST_TOWERS = 4
+
+WRONG_INPUT = -22
+
+
+def input_fits(n, t):
+    """Whether n is a number of towers and t has just one rule for each of them."""
+    if n < 1 or n > MOST_TOWERS or len(t) != n:
+        return False
+    # Only now: for an n that is too large this number could not be held.
+    bound = 1 << (1 << n)
+    for rule in t:
+        if rule >= bound:
+            return False
+    return True
+
+
+def state_after(t, state):
+    """What comes of the state, all at once."""
+    after = 0
+    for tower, rule in enumerate(t):
+        after = after | (((rule >> state) & 1) << tower)
+    return after
+
+
+def is_under(low, high):
+    """Whether all flags that are up in low are up in high."""
+    return (low & high) == low
+
+
+def rules_rise(n, t):
+    """Whether of any two states, one under the other, the same holds of what comes of them."""
+    states = 1 << n
+    afters = [state_after(t, state) for state in range(states)]
+    for low in range(states):
+        for high in range(states):
+            if is_under(low, high) and not is_under(afters[low], afters[high]):
+                return False
+    return True
+
+
+def rises(n, t):
+    """One number: 1 if the rules rise, else 0; or a refusal."""
+    if not input_fits(n, t):
+        return [WRONG_INPUT]
+    if rules_rise(n, t):
+        return [1]
+    return [0]

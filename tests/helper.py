@@ -1,0 +1,114 @@
+"""What the tests share. States are sets of towers here, so that nothing is told the program's way."""
+
+from itertools import combinations, product
+
+LARGEST = 4294967295
+
+FALLING = {1: 1, 2: 7, 3: 127, 4: 32767}
+
+WRONG_INPUTS = [
+    # n is not 1 to 4
+    (0, []),
+    (0, [0]),
+    (5, [0, 0, 0, 0, 0]),
+    (5, [0, 0, 0, 0]),
+    (5, []),
+    (10, [0] * 10),
+    (LARGEST, []),
+    (LARGEST, [0]),
+    (LARGEST, [0] * 10),
+    # t is empty
+    (1, []),
+    (2, []),
+    (3, []),
+    (4, []),
+    # one rule too few
+    (2, [0]),
+    (3, [0, 0]),
+    (4, [0, 0, 0]),
+    # one rule too many
+    (1, [0, 0]),
+    (2, [0, 0, 0]),
+    (3, [0, 0, 0, 0]),
+    (4, [0, 0, 0, 0, 0]),
+    # as many rules as can be handed in
+    (1, [0] * 10),
+    (4, [65535] * 10),
+    # a rule that is just too large, one above it, and the largest, at each tower
+    (1, [4]),
+    (1, [5]),
+    (1, [65535]),
+    (2, [16, 0]),
+    (2, [0, 16]),
+    (2, [17, 0]),
+    (2, [0, 17]),
+    (2, [0, 65535]),
+    (3, [256, 0, 0]),
+    (3, [0, 256, 0]),
+    (3, [0, 0, 256]),
+    (3, [257, 0, 0]),
+    (3, [0, 257, 0]),
+    (3, [0, 0, 257]),
+    (3, [0, 65535, 0]),
+]
+
+
+def all_states(n):
+    return [frozenset(chosen) for size in range(n + 1) for chosen in combinations(range(n), size)]
+
+
+def number_of(state):
+    return sum(2 ** tower for tower in state)
+
+
+def rule_of(n, is_up):
+    """The rule's number, from a function that tells of each set of towers whether the flag is up next."""
+    return sum(2 ** number_of(state) for state in all_states(n) if is_up(state))
+
+
+def never(n):
+    return rule_of(n, lambda state: False)
+
+
+def always(n):
+    return rule_of(n, lambda state: True)
+
+
+def follows(n, tower):
+    return rule_of(n, lambda state: tower in state)
+
+
+def says_up(rule, state):
+    return rule // 2 ** number_of(state) % 2 == 1
+
+
+def comes_of(t, state):
+    return frozenset(tower for tower, rule in enumerate(t) if says_up(rule, state))
+
+
+def puts_one_down(n, t):
+    """Whether some flag that comes up, by itself, puts one down."""
+    for state in all_states(n):
+        for tower in range(n):
+            if not comes_of(t, state) <= comes_of(t, state | {tower}):
+                return True
+    return False
+
+
+def rising_rules(n):
+    """Every rule that rises, built from those of one tower fewer: one half under the other."""
+    if n == 0:
+        return [0, 1]
+    halves = rising_rules(n - 1)
+    width = 2 ** (n - 1)
+    return [low + high * 2 ** width for low, high in product(halves, halves) if low & high == low]
+
+
+class ReadOnlyList(list):
+    """A list that lets nobody change it, not even for a while."""
+
+    def refuse(self, *given, **named):
+        raise AssertionError("the list that was handed in was to be changed")
+
+    __setitem__ = __delitem__ = __iadd__ = __imul__ = refuse
+    append = extend = insert = pop = remove = clear = sort = reverse = refuse

@@ -3,6 +3,7 @@
 MOST_TOWERS = 4
 
 WRONG_INPUT = -22
+NOT_RISING = -16
 
 
 def input_fits(n, t):
@@ -48,3 +49,20 @@ def rises(n, t):
     if rules_rise(n, t):
         return [1]
     return [0]
+
+
+def least(n, t):
+    """Two numbers: the least state at rest, then in how few steps it comes of no flag up; or a refusal."""
+    if not input_fits(n, t):
+        return [WRONG_INPUT]
+    if not rules_rise(n, t):
+        return [NOT_RISING]
+    state = 0
+    steps = 0
+    after = state_after(t, state)
+    # This ends: the rules rise, so from no flag up each step leaves all flags up that are up.
+    while after != state:
+        state = after
+        steps = steps + 1
+        after = state_after(t, state)
+    return [state, steps]

@@ -95,6 +95,21 @@ def puts_one_down(n, t):
     return False
 
 
+def states_at_rest(n, t):
+    return [state for state in all_states(n) if comes_of(t, state) == state]
+
+
+def one_behind_another(t):
+    """Every state that comes of no flag up, one tower behind another, in whatever order."""
+    found = [frozenset()]
+    for state in found:
+        for tower, rule in enumerate(t):
+            after = state | {tower} if says_up(rule, state) else state - {tower}
+            if after not in found:
+                found.append(after)
+    return found
+
+
 def rising_rules(n):
     """Every rule that rises, built from those of one tower fewer: one half under the other."""
     if n == 0:
@@ -112,3 +127,36 @@ class ReadOnlyList(list):
 
     __setitem__ = __delitem__ = __iadd__ = __imul__ = refuse
     append = extend = insert = pop = remove = clear = sort = reverse = refuse
+
+
+class EveryCall:
+    """What holds of every call; a test case gives the call and, for some arguments, the answers."""
+
+    def call(self, *arguments):
+        raise NotImplementedError
+
+    answers = []
+
+    def test_what_is_handed_in_is_not_changed(self):
+        for arguments, answer in self.answers:
+            *numbers, t = arguments
+            handed = ReadOnlyList(t)
+            self.assertEqual(self.call(*numbers, handed), answer, arguments)
+            self.assertEqual(handed, t)
+
+    def test_each_call_is_as_if_the_first(self):
+        for turn in range(2):
+            for arguments, answer in self.answers:
+                self.assertEqual(self.call(*arguments), answer, arguments)
+                self.assertEqual(self.call(*arguments), answer, arguments)
+
+    def test_an_answer_belongs_to_its_caller(self):
+        for arguments, answer in self.answers:
+            self.call(*arguments).append(7)
+            self.assertEqual(self.call(*arguments), answer, arguments)
+
+    def test_kinds(self):
+        for arguments, answer in self.answers:
+            answered = self.call(*arguments)
+            self.assertIs(type(answered), list, arguments)
+            self.assertEqual({type(number) for number in answered}, {int}, arguments)

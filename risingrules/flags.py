@@ -42,6 +42,28 @@ def rules_rise(n, t):
     return True
 
 
+def refusal_due(n, t):
+    """The refusal of all calls but rises that is due, or 0 if none is."""
+    if not input_fits(n, t):
+        return WRONG_INPUT
+    if not rules_rise(n, t):
+        return NOT_RISING
+    return 0
+
+
+def rest_after(t, state):
+    """The state at rest that comes of this one, then behind how few steps."""
+    steps = 0
+    after = state_after(t, state)
+    # This ends: callers start where the first step only puts flags up, or only puts flags down, and as the rules
+    # rise each further step does the same.
+    while after != state:
+        state = after
+        steps = steps + 1
+        after = state_after(t, state)
+    return [state, steps]
+
+
 def rises(n, t):
     """One number: 1 if the rules rise, else 0; or a refusal."""
     if not input_fits(n, t):
@@ -53,16 +75,15 @@ def rises(n, t):
 
 def least(n, t):
     """Two numbers: the least state at rest, then in how few steps it comes of no flag up; or a refusal."""
-    if not input_fits(n, t):
-        return [WRONG_INPUT]
-    if not rules_rise(n, t):
-        return [NOT_RISING]
-    state = 0
-    steps = 0
-    after = state_after(t, state)
-    # This ends: the rules rise, so from no flag up each step leaves all flags up that are up.
-    while after != state:
-        state = after
-        steps = steps + 1
-        after = state_after(t, state)
-    return [state, steps]
+    refusal = refusal_due(n, t)
+    if refusal != 0:
+        return [refusal]
+    return rest_after(t, 0)
+
+
+def greatest(n, t):
+    """Two numbers: the greatest state at rest, then in how few steps it comes of all flags up; or a refusal."""
+    refusal = refusal_due(n, t)
+    if refusal != 0:
+        return [refusal]
+    return rest_after(t, (1 << n) - 1)

@@ -6,6 +6,8 @@ LARGEST = 4294967295
 
 FALLING = {1: 1, 2: 7, 3: 127, 4: 32767}
 
+NOT_RISING = [(1, [1]), (2, [12, 5]), (2, [6, 10]), (3, [150, 170, 204]), (4, [27030, 0, 0, 0])]
+
 WRONG_INPUTS = [
     # n is not 1 to 4
     (0, []),
@@ -52,6 +54,22 @@ WRONG_INPUTS = [
     (3, [0, 65535, 0]),
 ]
 
+WRONG_AND_NOT_RISING = [
+    (0, [1]),
+    (5, [1] * 5),
+    (LARGEST, [1] * 10),
+    (1, [1, 1]),
+    (1, [5]),
+    (2, [7]),
+    (2, [7, 7, 7]),
+    (2, [7, 16]),
+    (2, [16, 7]),
+    (3, [127, 0]),
+    (3, [127, 0, 257]),
+    (4, [32767, 0, 0]),
+    (4, [32767, 0, 0, 0, 0]),
+]
+
 
 def all_states(n):
     return [frozenset(chosen) for size in range(n + 1) for chosen in combinations(range(n), size)]
@@ -95,6 +113,16 @@ def puts_one_down(n, t):
     return False
 
 
+def steps_between(t, start, goal, at_most):
+    """Behind how few steps, all at once, the goal comes of the start; None if it doesn't."""
+    state = start
+    for steps in range(at_most + 1):
+        if state == goal:
+            return steps
+        state = comes_of(t, state)
+    return None
+
+
 def states_at_rest(n, t):
     return [state for state in all_states(n) if comes_of(t, state) == state]
 
@@ -117,6 +145,23 @@ def rising_rules(n):
     halves = rising_rules(n - 1)
     width = 2 ** (n - 1)
     return [low + high * 2 ** width for low, high in product(halves, halves) if low & high == low]
+
+
+def spread_lists(rules, n, how_many):
+    """So many lists of n of these rules, spread evenly over all such lists."""
+    size = len(rules)
+    stride = size ** n // how_many | 1
+    return [[rules[turn * stride // size ** tower % size] for tower in range(n)] for turn in range(how_many)]
+
+
+def some_rising(n):
+    """Lists of rules that rise: all of them up to three towers, of four a fixed choice of many."""
+    rules = rising_rules(n)
+    if n < 4:
+        return [list(t) for t in product(rules, repeat=n)]
+    # Most rules leave few states at rest; few are always up or never, or do as one other tower: those go far.
+    simple = [never(n), always(n)] + [follows(n, tower) for tower in range(n)]
+    return spread_lists(rules, n, 3000) + [list(t) for t in product(simple, repeat=n)]
 
 
 class ReadOnlyList(list):
@@ -160,3 +205,34 @@ class EveryCall:
             answered = self.call(*arguments)
             self.assertIs(type(answered), list, arguments)
             self.assertEqual({type(number) for number in answered}, {int}, arguments)
+
+
+class RefusedRules:
+    """What every call but rises refuses of n and t; a test case gives the call, made with these."""
+
+    def call_with_rules(self, n, t):
+        raise NotImplementedError
+
+    def test_what_is_not_as_told(self):
+        for n, t in WRONG_INPUTS:
+            self.assertEqual(self.call_with_rules(n, t), [-22], (n, t))
+
+    def test_rules_that_do_not_rise(self):
+        for n, t in NOT_RISING:
+            self.assertEqual(self.call_with_rules(n, t), [-16], (n, t))
+
+    def test_a_falling_rule_at_whatever_tower(self):
+        for n in range(1, 5):
+            for tower in range(n):
+                t = [follows(n, 0)] * n
+                t[tower] = FALLING[n]
+                self.assertEqual(self.call_with_rules(n, t), [-16], (n, t))
+
+    def test_refused_just_if_the_rules_do_not_rise(self):
+        for rules in product(range(16), repeat=2):
+            t = list(rules)
+            self.assertEqual(self.call_with_rules(2, t) == [-16], puts_one_down(2, t), t)
+
+    def test_not_as_told_goes_ahead_of_not_rising(self):
+        for n, t in WRONG_AND_NOT_RISING:
+            self.assertEqual(self.call_with_rules(n, t), [-22], (n, t))

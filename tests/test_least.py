@@ -3,36 +3,9 @@ from itertools import product
 
 from risingrules.flags import least
 from tests.helper import (
-    FALLING, LARGEST, WRONG_INPUTS, EveryCall, all_states, always, comes_of, follows, never, number_of,
-    one_behind_another, puts_one_down, rising_rules, rule_of, states_at_rest,
+    EveryCall, RefusedRules, all_states, always, comes_of, follows, never, number_of, one_behind_another, rule_of,
+    some_rising, states_at_rest, steps_between,
 )
-
-
-def spread_lists(rules, n, how_many):
-    """So many lists of n of these rules, spread evenly over all such lists."""
-    size = len(rules)
-    stride = size ** n // how_many | 1
-    return [[rules[turn * stride // size ** tower % size] for tower in range(n)] for turn in range(how_many)]
-
-
-def some_rising(n):
-    """Lists of rules that rise: all of them up to three towers, of four a fixed choice of many."""
-    rules = rising_rules(n)
-    if n < 4:
-        return [list(t) for t in product(rules, repeat=n)]
-    # Most rules leave no flag up at rest; few are always up, or do as one other tower, and those climb far.
-    climbing = [never(n), always(n)] + [follows(n, tower) for tower in range(n)]
-    return spread_lists(rules, n, 3000) + [list(t) for t in product(climbing, repeat=n)]
-
-
-def steps_from_no_flag(t, goal, at_most):
-    """Behind how few steps, all at once, the goal comes of no flag up; None if it doesn't."""
-    state = frozenset()
-    for steps in range(at_most + 1):
-        if state == goal:
-            return steps
-        state = comes_of(t, state)
-    return None
 
 
 class OrdinaryInputs(unittest.TestCase):
@@ -126,7 +99,7 @@ class WhatHolds(unittest.TestCase):
                 resting = states_at_rest(n, t)
                 under_all = [state for state in resting if all(state <= other for other in resting)]
                 self.assertEqual(len(under_all), 1, (n, t))
-                steps = steps_from_no_flag(t, under_all[0], 2 ** n)
+                steps = steps_between(t, frozenset(), under_all[0], 2 ** n)
                 self.assertLessEqual(steps, n, (n, t))
                 self.assertEqual(least(n, t), [number_of(under_all[0]), steps], (n, t))
 
@@ -141,44 +114,9 @@ class WhatHolds(unittest.TestCase):
                 self.assertEqual(resting, [low], (n, t))
 
 
-class WrongInputs(unittest.TestCase):
-    def test_refused(self):
-        for n, t in WRONG_INPUTS:
-            self.assertEqual(least(n, t), [-22], (n, t))
-
-    def test_rules_that_do_not_rise(self):
-        for n, t in [(1, [1]), (2, [12, 5]), (2, [6, 10]), (3, [150, 170, 204]), (4, [27030, 0, 0, 0])]:
-            self.assertEqual(least(n, t), [-16], (n, t))
-
-    def test_a_falling_rule_at_whatever_tower(self):
-        for n in range(1, 5):
-            for tower in range(n):
-                t = [follows(n, 0)] * n
-                t[tower] = FALLING[n]
-                self.assertEqual(least(n, t), [-16], (n, t))
-
-    def test_refused_just_if_the_rules_do_not_rise(self):
-        for rules in product(range(16), repeat=2):
-            t = list(rules)
-            self.assertEqual(least(2, t) == [-16], puts_one_down(2, t), t)
-
-    def test_of_both_refusals_the_first(self):
-        for n, t in [
-            (0, [1]),
-            (5, [1] * 5),
-            (LARGEST, [1] * 10),
-            (1, [1, 1]),
-            (1, [5]),
-            (2, [7]),
-            (2, [7, 7, 7]),
-            (2, [7, 16]),
-            (2, [16, 7]),
-            (3, [127, 0]),
-            (3, [127, 0, 257]),
-            (4, [32767, 0, 0]),
-            (4, [32767, 0, 0, 0, 0]),
-        ]:
-            self.assertEqual(least(n, t), [-22], (n, t))
+class WrongInputs(RefusedRules, unittest.TestCase):
+    def call_with_rules(self, n, t):
+        return least(n, t)
 
 
 class Calls(EveryCall, unittest.TestCase):

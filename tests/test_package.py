@@ -10,7 +10,7 @@ from risingrules import flags
 
 FOLDER = Path(risingrules.__file__).parent
 SOURCES = {path.name: path.read_text(encoding="utf-8") for path in sorted(FOLDER.glob("*.py"))}
-CALLS = ["rises", "least"]
+CALLS = ["rises", "least", "greatest"]
 
 
 class Interface(unittest.TestCase):

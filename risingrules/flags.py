@@ -4,6 +4,7 @@ MOST_TOWERS = 4
 
 WRONG_INPUT = -22
 NOT_RISING = -16
+NOT_AT_REST = -33
 
 
 def input_fits(n, t):
@@ -42,12 +43,18 @@ def rules_rise(n, t):
     return True
 
 
-def refusal_due(n, t):
-    """The refusal of all calls but rises that is due, or 0 if none is."""
+def refusal_due(n, states, t):
+    """The refusal of all calls but rises that is due, or 0 if none is; states are the ones handed in."""
     if not input_fits(n, t):
         return WRONG_INPUT
+    for state in states:
+        if state >= 1 << n:
+            return WRONG_INPUT
     if not rules_rise(n, t):
         return NOT_RISING
+    for state in states:
+        if state_after(t, state) != state:
+            return NOT_AT_REST
     return 0
 
 
@@ -75,7 +82,7 @@ def rises(n, t):
 
 def least(n, t):
     """Two numbers: the least state at rest, then in how few steps it comes of no flag up; or a refusal."""
-    refusal = refusal_due(n, t)
+    refusal = refusal_due(n, [], t)
     if refusal != 0:
         return [refusal]
     return rest_after(t, 0)
@@ -83,7 +90,16 @@ def least(n, t):
 
 def greatest(n, t):
     """Two numbers: the greatest state at rest, then in how few steps it comes of all flags up; or a refusal."""
-    refusal = refusal_due(n, t)
+    refusal = refusal_due(n, [], t)
     if refusal != 0:
         return [refusal]
     return rest_after(t, (1 << n) - 1)
+
+
+def join(n, x, y, t):
+    """One number: of the states at rest that x and y are under, the least; or a refusal."""
+    refusal = refusal_due(n, [x, y], t)
+    if refusal != 0:
+        return [refusal]
+    # x and y come of themselves, so what comes of both together has at least their flags up.
+    return [rest_after(t, x | y)[0]]

@@ -1,6 +1,7 @@
 """What the tests share. States are sets of towers here, so that nothing is told the program's way."""
 
 from itertools import combinations, product
+from math import prod
 
 LARGEST = 4294967295
 
@@ -147,11 +148,18 @@ def rising_rules(n):
     return [low + high * 2 ** width for low, high in product(halves, halves) if low & high == low]
 
 
-def spread_lists(rules, n, how_many):
-    """So many lists of n of these rules, spread evenly over all such lists."""
-    size = len(rules)
-    stride = size ** n // how_many | 1
-    return [[rules[turn * stride // size ** tower % size] for tower in range(n)] for turn in range(how_many)]
+def spread_lists(choices, how_many):
+    """So many lists, each with one of every tower's choices, spread evenly over all such lists."""
+    stride = prod(len(rules) for rules in choices) // how_many | 1
+    lists = []
+    for turn in range(how_many):
+        left = turn * stride
+        t = []
+        for rules in choices:
+            left, place = divmod(left, len(rules))
+            t.append(rules[place])
+        lists.append(t)
+    return lists
 
 
 def some_rising(n):
@@ -161,7 +169,7 @@ def some_rising(n):
         return [list(t) for t in product(rules, repeat=n)]
     # Most rules leave few states at rest; few are always up or never, or do as one other tower: those go far.
     simple = [never(n), always(n)] + [follows(n, tower) for tower in range(n)]
-    return spread_lists(rules, n, 3000) + [list(t) for t in product(simple, repeat=n)]
+    return spread_lists([rules] * n, 3000) + [list(t) for t in product(simple, repeat=n)]
 
 
 class ReadOnlyList(list):

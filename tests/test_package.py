@@ -10,22 +10,30 @@ from risingrules import flags
 
 FOLDER = Path(risingrules.__file__).parent
 SOURCES = {path.name: path.read_text(encoding="utf-8") for path in sorted(FOLDER.glob("*.py"))}
-CALLS = ["rises", "least", "greatest"]
+TAKES_STATES = {"rises": False, "least": False, "greatest": False, "join": True}
+
+
+def named(takes_states, n, t):
+    """The arguments by name, in the order in which they are told."""
+    if takes_states:
+        return {"n": n, "x": 0, "y": 3, "t": t}
+    return {"n": n, "t": t}
 
 
 class Interface(unittest.TestCase):
     def test_names_and_arguments(self):
-        for name in CALLS:
+        for name, takes_states in TAKES_STATES.items():
             call = getattr(flags, name)
-            self.assertEqual(list(inspect.signature(call).parameters), ["n", "t"])
-            self.assertEqual(call(n=2, t=[12, 10]), call(2, [12, 10]))
+            arguments = named(takes_states, 2, [12, 10])
+            self.assertEqual(list(inspect.signature(call).parameters), list(arguments))
+            self.assertEqual(call(**arguments), call(*arguments.values()))
 
     def test_nothing_is_printed(self):
         printed = io.StringIO()
         with contextlib.redirect_stdout(printed), contextlib.redirect_stderr(printed):
-            for name in CALLS:
-                for n, t in [(2, [12, 10]), (2, [7, 7]), (0, [])]:
-                    getattr(flags, name)(n, t)
+            for name, takes_states in TAKES_STATES.items():
+                for n, t in [(2, [12, 10]), (2, [7, 7]), (2, [0, 0]), (0, [])]:
+                    getattr(flags, name)(**named(takes_states, n, t))
         self.assertEqual(printed.getvalue(), "")
 
 

@@ -103,3 +103,12 @@ def join(n, x, y, t):
         return [refusal]
     # x and y come of themselves, so what comes of both together has at least their flags up.
     return [rest_after(t, x | y)[0]]
+
+
+def meet(n, x, y, t):
+    """One number: of the states at rest that are under x and y, the greatest; or a refusal."""
+    refusal = refusal_due(n, [x, y], t)
+    if refusal != 0:
+        return [refusal]
+    # x and y come of themselves, so what comes of the flags they share has none but these up.
+    return [rest_after(t, x & y)[0]]

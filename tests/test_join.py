@@ -3,34 +3,9 @@ from itertools import product
 
 from risingrules.flags import join
 from tests.helper import (
-    FALLING, LARGEST, EveryCall, RefusedRules, all_states, always, comes_of, follows, never, number_of,
-    rising_rules, rule_of, some_rising, spread_lists, states_at_rest,
+    EveryCall, RefusedRules, RefusedStates, all_states, always, follows, many_at_rest, never, number_of, numbers,
+    rule_of, states_at_rest,
 )
-
-
-# Rules that don't rise, with x and y at rest all the same: n, x, y, t.
-AT_REST_BUT_NOT_RISING = [
-    (2, 1, 3, [14, 13]),
-    (3, 1, 2, [170, 204, 16]),
-    (4, 1, 2, [43690, 52428, 0, 4096]),
-]
-
-
-def staying_up(n, tower):
-    """The rules that rise and by which the tower's flag, once up, stays up."""
-    own = follows(n, tower)
-    return [rule for rule in rising_rules(n) if rule & own == own]
-
-
-def many_at_rest(n):
-    """Lists of rules that rise; of four towers also some by which no flag comes down, with many states at rest."""
-    if n < 4:
-        return some_rising(n)
-    return some_rising(n) + spread_lists([staying_up(n, tower) for tower in range(n)], 500)
-
-
-def numbers(states):
-    return [number_of(state) for state in states]
 
 
 class OrdinaryInputs(unittest.TestCase):
@@ -158,92 +133,13 @@ class WhatHolds(unittest.TestCase):
                     answered = join(n, number_of(x), number_of(y), t)
                     self.assertEqual(answered, [number_of(under_all[0])], (n, x, y, t))
 
-    def test_refused_just_if_one_is_not_at_rest(self):
-        for n in range(1, 5):
-            for t in some_rising(n)[::37]:
-                for x, y in product(all_states(n), repeat=2):
-                    refused = comes_of(t, x) != x or comes_of(t, y) != y
-                    self.assertEqual(join(n, number_of(x), number_of(y), t) == [-33], refused, (n, x, y, t))
 
-
-class WrongRules(RefusedRules, unittest.TestCase):
+class WrongInputs(RefusedRules, RefusedStates, unittest.TestCase):
     def call_with_rules(self, n, t):
         return join(n, 0, 0, t)
 
-
-class WrongStates(unittest.TestCase):
-    def test_not_a_state(self):
-        for n in range(1, 5):
-            t = [follows(n, tower) for tower in range(n)]
-            for wrong in (2 ** n, 2 ** n + 1, LARGEST):
-                for x, y in [(wrong, 0), (0, wrong), (wrong, 2 ** n - 1), (2 ** n - 1, wrong), (wrong, wrong)]:
-                    self.assertEqual(join(n, x, y, t), [-22], (n, x, y))
-
-    def test_not_at_rest(self):
-        for n, x, y, t in [
-            (1, 1, 0, [0]),
-            (1, 0, 1, [0]),
-            (1, 1, 1, [0]),
-            (2, 1, 0, [12, 10]),
-            (2, 3, 2, [12, 10]),
-            (2, 1, 2, [12, 10]),
-            (3, 3, 7, [170, 204, 248]),
-            (3, 0, 3, [170, 204, 248]),
-            (3, 3, 3, [170, 204, 248]),
-            (4, 3, 12, [43690, 52428, 63736, 65520]),
-            (4, 15, 4, [43690, 52428, 63736, 65520]),
-            (4, 3, 4, [43690, 52428, 63736, 65520]),
-        ]:
-            self.assertEqual(join(n, x, y, t), [-33], (n, x, y, t))
-
-
-class WrongRulesForStatesAtRest(unittest.TestCase):
-    def test_not_rising(self):
-        for n, x, y, t in AT_REST_BUT_NOT_RISING:
-            self.assertTrue({x, y} <= set(numbers(states_at_rest(n, t))), (n, x, y, t))
-            self.assertEqual(join(n, x, y, t), [-16], (n, x, y, t))
-
-
-class SeveralRefusals(unittest.TestCase):
-    def test_not_as_told_and_not_rising(self):
-        for n, x, y, t in AT_REST_BUT_NOT_RISING:
-            for wrong in (2 ** n, 2 ** n + 1, LARGEST):
-                self.assertEqual(join(n, wrong, y, t), [-22], (n, wrong, y, t))
-                self.assertEqual(join(n, x, wrong, t), [-22], (n, x, wrong, t))
-                self.assertEqual(join(n, wrong, wrong, t), [-22], (n, wrong, wrong, t))
-            self.assertEqual(join(n, x, y, t + [0]), [-22], (n, x, y, t))
-            self.assertEqual(join(n, x, y, t[:-1]), [-22], (n, x, y, t))
-
-    def test_not_as_told_and_not_at_rest(self):
-        for n in range(1, 5):
-            t = [always(n)] * n
-            for wrong in (2 ** n, 2 ** n + 1, LARGEST):
-                self.assertEqual(join(n, wrong, 0, t), [-22], (n, wrong))
-                self.assertEqual(join(n, 0, wrong, t), [-22], (n, wrong))
-            self.assertEqual(join(n, 0, 0, t + [0]), [-22], n)
-            self.assertEqual(join(n, 0, 0, t[1:]), [-22], n)
-        self.assertEqual(join(5, 0, 0, [65535] * 5), [-22])
-        self.assertEqual(join(LARGEST, LARGEST, LARGEST, [65535] * 10), [-22])
-
-    def test_not_rising_and_not_at_rest(self):
-        for n, x, y, t in [
-            (1, 0, 1, [1]),
-            (2, 0, 1, [7, 12]),
-            (2, 1, 0, [7, 12]),
-            (2, 0, 0, [7, 12]),
-            (3, 0, 6, [127, 204, 240]),
-            (3, 5, 7, [127, 204, 240]),
-            (4, 0, 15, [32767, 52428, 61680, 65280]),
-            (4, 1, 15, [32767, 52428, 61680, 65280]),
-        ]:
-            self.assertEqual(join(n, x, y, t), [-16], (n, x, y, t))
-
-    def test_all_three(self):
-        for n in range(1, 5):
-            falling = [FALLING[n]] * n
-            for wrong in (2 ** n, 2 ** n + 1, LARGEST):
-                self.assertEqual(join(n, wrong, 0, falling), [-22], (n, wrong))
-                self.assertEqual(join(n, 0, wrong, falling), [-22], (n, wrong))
+    def call(self, *arguments):
+        return join(*arguments)
 
 
 class Calls(EveryCall, unittest.TestCase):

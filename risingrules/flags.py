@@ -60,15 +60,36 @@ def refusal_due(n, states, t):
 
 def rest_after(t, state):
     """The state at rest that comes of this one, then behind how few steps."""
-    steps = 0
-    after = state_after(t, state)
-    # This ends: callers start where the first step only puts flags up, or only puts flags down, and as the rules
-    # rise each further step does the same.
-    while after != state:
-        state = after
-        steps = steps + 1
+    # Callers start where the first step only puts flags up, or only puts flags down. As the rules rise each further
+    # step does the same, so no more steps than towers are needed.
+    for steps in range(len(t)):
         after = state_after(t, state)
-    return [state, steps]
+        if after == state:
+            return [state, steps]
+        state = after
+    return [state, len(t)]
+
+
+def all_flags_up(n):
+    """The state in which all flags are up."""
+    return (1 << n) - 1
+
+
+def flags_up(n, state):
+    """How many flags are up in the state."""
+    return sum([(state >> tower) & 1 for tower in range(n)])
+
+
+def rules_held_up(n, t, held):
+    """The rules, as a list of their own, with those of the towers in held saying up, always."""
+    always = (1 << (1 << n)) - 1
+    return [always if (held >> tower) & 1 else rule for tower, rule in enumerate(t)]
+
+
+def brings_all_up(n, t, held):
+    """Whether the towers in held, held up, bring all flags up from just their flags up."""
+    # What is held up stays up, so the first step only puts flags up, and held rules rise if the others do.
+    return rest_after(rules_held_up(n, t, held), held)[0] == all_flags_up(n)
 
 
 def rises(n, t):
@@ -93,7 +114,7 @@ def greatest(n, t):
     refusal = refusal_due(n, [], t)
     if refusal != 0:
         return [refusal]
-    return rest_after(t, (1 << n) - 1)
+    return rest_after(t, all_flags_up(n))
 
 
 def join(n, x, y, t):
@@ -112,3 +133,16 @@ def meet(n, x, y, t):
         return [refusal]
     # x and y come of themselves, so what comes of the flags they share has none but these up.
     return [rest_after(t, x & y)[0]]
+
+
+def seeds(n, t):
+    """Two numbers: how few towers, held up, bring all flags up, then the least set of so few; or a refusal."""
+    refusal = refusal_due(n, [], t)
+    if refusal != 0:
+        return [refusal]
+    # All towers together always do. Lesser numbers come first, so of sets of as many towers the least one stays.
+    fewest = all_flags_up(n)
+    for held in range(all_flags_up(n)):
+        if flags_up(n, held) < flags_up(n, fewest) and brings_all_up(n, t, held):
+            fewest = held
+    return [flags_up(n, fewest), fewest]

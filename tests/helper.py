@@ -150,6 +150,14 @@ def one_behind_another(t):
     return found
 
 
+def brings_all_up(n, t, held):
+    """Whether all flags come up, all at once, from just the held ones up, if these stay up always."""
+    state = held
+    for step in range(2 ** n):
+        state = comes_of(t, state) | held
+    return len(state) == n
+
+
 def rising_rules(n):
     """Every rule that rises, built from those of one tower fewer: one half under the other."""
     if n == 0:
@@ -181,6 +189,25 @@ def some_rising(n):
     # Most rules leave few states at rest; few are always up or never, or do as one other tower: those go far.
     simple = [never(n), always(n)] + [follows(n, tower) for tower in range(n)]
     return spread_lists([rules] * n, 3000) + [list(t) for t in product(simple, repeat=n)]
+
+
+def nearly_rising(n):
+    """The rules that rise, with what they say of one state turned round: most don't rise any more, some do."""
+    return [rule ^ 2 ** number_of(state) for rule in rising_rules(n) for state in all_states(n)]
+
+
+def rising_or_not(n):
+    """Lists of rules of which some rise and some don't: all of them up to two towers, of more a fixed choice."""
+    every = range(2 ** 2 ** n)
+    if n < 3:
+        return [list(t) for t in product(every, repeat=n)]
+    lists = spread_lists([every] * n, 500) + some_rising(n)[::10]
+    # One rule at fault among rules that rise is the hardest to see.
+    for tower in range(n):
+        choices = [rising_rules(n)] * n
+        choices[tower] = nearly_rising(n)
+        lists = lists + spread_lists(choices, 500)
+    return lists
 
 
 def staying_up(n, tower):

@@ -1,10 +1,10 @@
 import unittest
 from itertools import product
 
-from risingrules.flags import greatest, least
+from risingrules.flags import greatest
 from tests.helper import (
-    EveryCall, RefusedRules, all_states, always, comes_of, follows, never, number_of, rule_of, some_rising,
-    states_at_rest, steps_between,
+    EveryCall, RefusedRules, all_states, always, follows, never, number_of, rule_of, some_rising, states_at_rest,
+    steps_between,
 )
 
 
@@ -117,22 +117,6 @@ class WhatHolds(unittest.TestCase):
                 steps = steps_between(t, frozenset(range(n)), above_all[0], 2 ** n)
                 self.assertLessEqual(steps, n, (n, t))
                 self.assertEqual(greatest(n, t), [number_of(above_all[0]), steps], (n, t))
-
-    def test_the_least_is_under_it(self):
-        for n in range(1, 5):
-            for t in some_rising(n):
-                low, high = least(n, t)[0], greatest(n, t)[0]
-                self.assertEqual(low & high, low, (n, t))
-
-    def test_behind_as_many_steps_as_towers_each_state_lies_between(self):
-        for n in range(1, 5):
-            for t in some_rising(n)[::5]:
-                low, high = least(n, t)[0], greatest(n, t)[0]
-                for state in all_states(n):
-                    for step in range(n):
-                        state = comes_of(t, state)
-                    self.assertEqual(number_of(state) & low, low, (n, t))
-                    self.assertEqual(number_of(state) & high, number_of(state), (n, t))
 
 
 class WrongInputs(RefusedRules, unittest.TestCase):

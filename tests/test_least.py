@@ -3,8 +3,8 @@ from itertools import product
 
 from risingrules.flags import least
 from tests.helper import (
-    EveryCall, RefusedRules, all_states, always, comes_of, follows, never, number_of, one_behind_another, rule_of,
-    some_rising, states_at_rest, steps_between,
+    EveryCall, RefusedRules, all_states, always, follows, never, number_of, rule_of, some_rising, states_at_rest,
+    steps_between,
 )
 
 
@@ -102,16 +102,6 @@ class WhatHolds(unittest.TestCase):
                 steps = steps_between(t, frozenset(), under_all[0], 2 ** n)
                 self.assertLessEqual(steps, n, (n, t))
                 self.assertEqual(least(n, t), [number_of(under_all[0]), steps], (n, t))
-
-    def test_one_tower_behind_another(self):
-        for n in range(1, 5):
-            for t in some_rising(n)[::5]:
-                low = least(n, t)[0]
-                found = one_behind_another(t)
-                for state in found:
-                    self.assertEqual(number_of(state) & low, number_of(state), (n, t))
-                resting = [number_of(state) for state in found if comes_of(t, state) == state]
-                self.assertEqual(resting, [low], (n, t))
 
 
 class WrongInputs(RefusedRules, unittest.TestCase):

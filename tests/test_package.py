@@ -10,7 +10,7 @@ from risingrules import flags
 
 FOLDER = Path(risingrules.__file__).parent
 SOURCES = {path.name: path.read_text(encoding="utf-8") for path in sorted(FOLDER.glob("*.py"))}
-TAKES_STATES = {"rises": False, "least": False, "greatest": False, "join": True, "meet": True}
+TAKES_STATES = {"rises": False, "least": False, "greatest": False, "join": True, "meet": True, "seeds": False}
 
 
 def named(takes_states, n, t):
